@@ -1,0 +1,58 @@
+package leasekeeper
+
+import (
+	"leasekeeper/api"
+	"leasekeeper/names"
+)
+
+// entry is what tokens and leases share.
+type entry struct {
+	above   names.Name // the token right above; of the root no name
+	at      uint64
+	tries   int
+	pending bool // whatever the time says
+}
+
+// tokenEntry is a token that is not gone.
+type tokenEntry struct {
+	entry
+}
+
+// leaseEntry is a lease that is not gone.
+type leaseEntry struct {
+	entry
+	path string
+	last uint64
+}
+
+// live holds for tokens as it stands: no time ends them, not even Never.
+func (e *entry) live() bool { return !e.pending }
+
+// live: the time alone ends a lease, too, without a call that could mark it.
+func (l *leaseEntry) live(time uint64) bool { return l.entry.live() && time < l.at }
+
+func (e *entry) info(name names.Name, live bool) api.Info {
+	state := api.Pending
+	if live {
+		state = api.Live
+	}
+	return api.Info{Id: name.String(), State: state, At: e.at, Tries: e.tries, Token: e.above.String()}
+}
+
+func (t *tokenEntry) info(name names.Name) api.Info {
+	return t.entry.info(name, t.live())
+}
+
+func (l *leaseEntry) info(name names.Name, time uint64) api.Info {
+	info := l.entry.info(name, l.live(time))
+	info.Path = l.path
+	return info
+}
+
+// later is a sum of times, which ends at Never and does not wrap round.
+func later(time uint64, ticks uint64) uint64 {
+	if ticks > api.Never-time {
+		return api.Never
+	}
+	return time + ticks
+}

@@ -1,0 +1,52 @@
+package leasekeeper_test
+
+import (
+	"slices"
+
+	"leasekeeper/api"
+)
+
+// memory is a disk that never falls.
+type memory map[string][]byte
+
+func (m memory) Read(name string) ([]byte, error) {
+	data, ok := m[name]
+	if !ok {
+		return nil, api.ErrNone
+	}
+	return slices.Clone(data), nil
+}
+
+func (m memory) Write(name string, data []byte) error {
+	m[name] = slices.Clone(data)
+	return nil
+}
+
+func (m memory) Append(name string, data []byte) error {
+	m[name] = append(m[name], data...)
+	return nil
+}
+
+func (m memory) Remove(name string) error {
+	if _, ok := m[name]; !ok {
+		return api.ErrNone
+	}
+	delete(m, name)
+	return nil
+}
+
+func (m memory) Names() ([]string, error) {
+	var list []string
+	for name := range m {
+		list = append(list, name)
+	}
+	slices.Sort(list)
+	return list, nil
+}
+
+func (m memory) Sync() error { return nil }
+
+// willing is a revoker that never fails.
+type willing struct{}
+
+func (willing) Revoke(string) bool { return true }
