@@ -98,6 +98,16 @@ func TestP1OddTextsAndNumbers(t *testing.T) {
 			for _, other := range texts {
 				h.Authorize(text, other)
 			}
+			if n, e := h.RevokePrefix(text, well); e != api.OK && n != 0 {
+				t.Errorf("RevokePrefix(%q) = %d, %d", text, n, e)
+			}
+			h.Revoke(text, well)
+			h.RevokeToken(text, well)
+			for i, later := range numbers {
+				if _, e := h.Tick(later%(now+3), uint64(i), well); e != api.OK {
+					t.Errorf("Tick = %d", e)
+				}
+			}
 			for _, ttl := range numbers {
 				if at, e := h.Renew(text, ttl, well); e != api.OK && at != 0 {
 					t.Errorf("Renew(%q, %d) = %d, %d", text, ttl, at, e)
@@ -122,6 +132,10 @@ func TestP2VaultsAreApart(t *testing.T) {
 	mustCreate(t, other, "t0", "t1")
 	mustIssue(t, other, "t0", "b", 5, 5, "l1")
 	wantAll(t, one, token("t0", ""), token("t1", "t0"), lease("l1", 101, "t1", "a"))
+	wantAll(t, other, token("t0", ""), token("t1", "t0"), lease("l1", 205, "t0", "b"))
+	mustRevokeToken(t, one, "t1")
+	tick(t, one, 300, 1, "l1")
+	tick(t, other, 204, 0, "")
 	wantAll(t, other, token("t0", ""), token("t1", "t0"), lease("l1", 205, "t0", "b"))
 }
 
@@ -368,9 +382,9 @@ func TestP12TheWalkGoesByNumbers(t *testing.T) {
 	}
 }
 
-func openVault(t *testing.T) *leasekeeper.Vault {
+func openVault(t *testing.T, r api.Revoker) *leasekeeper.Vault {
 	t.Helper()
-	v, err := leasekeeper.Open(memory{}, willing{}, 100)
+	v, err := leasekeeper.Open(memory{}, r, 100)
 	if err != nil {
 		t.Fatal(err)
 	}
@@ -386,7 +400,7 @@ func ids(walk func(yield func(api.Info) bool)) string {
 }
 
 func TestP12EachRangeBeginsAnew(t *testing.T) {
-	v := openVault(t)
+	v := openVault(t, willing{})
 	walk := v.All()
 	if got := ids(walk); got != "t0" {
 		t.Errorf("walked: %s", got)
@@ -409,7 +423,7 @@ func TestP12EachRangeBeginsAnew(t *testing.T) {
 }
 
 func TestP12TheWalkEndsWhenToldAmongTokensAndAmongLeases(t *testing.T) {
-	v := openVault(t)
+	v := openVault(t, willing{})
 	v.CreateToken("t0")
 	v.Issue("t0", "a", 1, 1)
 	v.Issue("t0", "a", 1, 1)
@@ -426,7 +440,7 @@ func TestP12TheWalkEndsWhenToldAmongTokensAndAmongLeases(t *testing.T) {
 }
 
 func TestP12TheVaultMayTurnWithinAWalk(t *testing.T) {
-	v := openVault(t)
+	v := openVault(t, willing{})
 	v.CreateToken("t0")
 	for info := range v.All() {
 		v.CreateToken(info.Id)

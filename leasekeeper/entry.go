@@ -31,6 +31,16 @@ func (e *entry) live() bool { return !e.pending }
 // live: the time alone ends a lease, too, without a call that could mark it.
 func (l *leaseEntry) live(time uint64) bool { return l.entry.live() && time < l.at }
 
+// revoke turns what is live.
+func (e *entry) revoke(time uint64) { e.pending, e.at = true, time }
+
+// fail: it was tried in vain. Of a lease that the time alone had ended the AT lies ahead again then, so that from now on the mark must say that it is pending.
+func (e *entry) fail(time uint64) {
+	e.pending = true
+	e.tries++
+	e.at = later(time, wait(e.tries))
+}
+
 func (e *entry) info(name names.Name, live bool) api.Info {
 	state := api.Pending
 	if live {
@@ -55,4 +65,13 @@ func later(time uint64, ticks uint64) uint64 {
 		return api.Never
 	}
 	return time + ticks
+}
+
+// wait is how many ticks pass until the next try, behind so many failures.
+func wait(failures int) uint64 {
+	var ticks uint64 = api.Base
+	for n := 1; n < failures && ticks < api.MaxBackoff; n++ {
+		ticks *= 2
+	}
+	return min(ticks, api.MaxBackoff)
 }

@@ -50,3 +50,8 @@ func (m memory) Sync() error { return nil }
 type willing struct{}
 
 func (willing) Revoke(string) bool { return true }
+
+// asking is a revoker that does what its function does: it may ask the vault itself, or panic.
+type asking func(id string) bool
+
+func (a asking) Revoke(id string) bool { return a(id) }

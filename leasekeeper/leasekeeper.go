@@ -6,26 +6,32 @@ import (
 	"leasekeeper/names"
 	"leasekeeper/order"
 	"leasekeeper/paths"
+	"leasekeeper/queue"
 )
 
 // Vault is what keeps tokens and leases.
 type Vault struct {
-	time   uint64
-	tokens map[names.Name]*tokenEntry // those that are not gone
-	leases map[names.Name]*leaseEntry // those that are not gone
+	revoker api.Revoker
+	time    uint64
+	tokens  map[names.Name]*tokenEntry // those that are not gone
+	leases  map[names.Name]*leaseEntry // those that are not gone
 
 	// The highest numbers that were given: what the maps hold does not tell them, since what is gone had one, too.
 	tokenNumber uint64
 	leaseNumber uint64
+
+	ticking bool
+	due     queue.Queue[turn] // empty, but while a Tick runs
 }
 
 // Open opens a vault over what a disk has (P3, P13).
 func Open(d api.Disk, r api.Revoker, now uint64) (*Vault, error) {
 	root := &tokenEntry{entry{at: api.Never}}
 	return &Vault{
-		time:   now,
-		tokens: map[names.Name]*tokenEntry{names.Root(): root},
-		leases: map[names.Name]*leaseEntry{},
+		revoker: r,
+		time:    now,
+		tokens:  map[names.Name]*tokenEntry{names.Root(): root},
+		leases:  map[names.Name]*leaseEntry{},
 	}, nil
 }
 
@@ -92,18 +98,6 @@ func (v *Vault) Authorize(id string, path string) bool {
 	lease := v.liveLease(id)
 	return lease != nil && lease.path == path
 }
-
-// Revoke: a lease is to go (P8).
-func (v *Vault) Revoke(id string) error { return nil }
-
-// RevokePrefix: all leases below a path are to go (P8).
-func (v *Vault) RevokePrefix(prefix string) (int, error) { return 0, nil }
-
-// RevokeToken: a token and all below it are to go (P9).
-func (v *Vault) RevokeToken(id string) error { return nil }
-
-// Tick: it is so late; what is due is tried (P10, P11).
-func (v *Vault) Tick(now uint64) error { return nil }
 
 // Next: when something is over, or due (P10).
 func (v *Vault) Next() uint64 {

@@ -1,7 +1,11 @@
 // Package paths says what a path is.
 package paths
 
-import "leasekeeper/api"
+import (
+	"strings"
+
+	"leasekeeper/api"
+)
 
 const slash = '/'
 
@@ -19,6 +23,12 @@ func Valid(text string) bool {
 		previous = r
 	}
 	return previous != slash
+}
+
+// Within: is the path the prefix, or below it? All paths are within an empty prefix.
+func Within(path string, prefix string) bool {
+	below, ok := strings.CutPrefix(path, prefix)
+	return ok && (prefix == "" || below == "" || below[0] == slash)
 }
 
 func inName(r rune) bool {

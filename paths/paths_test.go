@@ -27,3 +27,19 @@ func TestNoPaths(t *testing.T) {
 		}
 	}
 }
+
+func TestWithin(t *testing.T) {
+	longest := strings.Repeat("x", 24)
+	for _, c := range []struct {
+		path, prefix string
+		want         bool
+	}{
+		{"a", "", true}, {"a/b", "", true}, {longest, "", true},
+		{"a", "a", true}, {"a/b", "a", true}, {"a/b/c", "a", true}, {"a/b", "a/b", true}, {"a/b/c", "a/b", true}, {longest, longest, true},
+		{"ab", "a", false}, {"a-b", "a", false}, {"a-/b", "a", false}, {"ab/c", "a/b", false}, {"a/bc", "a/b", false}, {"a", "a/b", false}, {"b/a", "a", false}, {"aa/a", "a", false}, {longest, longest[1:], false},
+	} {
+		if got := Within(c.path, c.prefix); got != c.want {
+			t.Errorf("Within(%q, %q) = %v", c.path, c.prefix, got)
+		}
+	}
+}
