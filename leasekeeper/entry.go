@@ -3,6 +3,7 @@ package leasekeeper
 import (
 	"leasekeeper/api"
 	"leasekeeper/names"
+	"leasekeeper/records"
 )
 
 // entry is what tokens and leases share.
@@ -57,6 +58,26 @@ func (l *leaseEntry) info(name names.Name, time uint64) api.Info {
 	info := l.entry.info(name, l.live(time))
 	info.Path = l.path
 	return info
+}
+
+func (e *entry) record(name names.Name) records.Record {
+	return records.Record{Kind: records.Kept, Name: name, Above: e.above, Pending: e.pending, At: e.at, Tries: e.tries}
+}
+
+func (l *leaseEntry) record(name names.Name) records.Record {
+	record := l.entry.record(name)
+	record.Path, record.Last = l.path, l.last
+	return record
+}
+
+func entryOf(record records.Record) entry {
+	return entry{above: record.Above, at: record.At, tries: record.Tries, pending: record.Pending}
+}
+
+func tokenOf(record records.Record) tokenEntry { return tokenEntry{entryOf(record)} }
+
+func leaseOf(record records.Record) leaseEntry {
+	return leaseEntry{entry: entryOf(record), path: record.Path, last: record.Last}
 }
 
 // later is a sum of times, which ends at Never and does not wrap round.

@@ -55,3 +55,38 @@ func (willing) Revoke(string) bool { return true }
 type asking func(id string) bool
 
 func (a asking) Revoke(id string) bool { return a(id) }
+
+// counted is a disk that counts the calls that write; behind so many (below 0: never) each says an error, though it is done.
+type counted struct {
+	memory
+	writes, left int
+	err          error
+}
+
+func newCounted() *counted { return &counted{memory: memory{}, left: -1} }
+
+func (c *counted) write() error {
+	c.writes++
+	if c.left == 0 {
+		return c.err
+	}
+	c.left--
+	return nil
+}
+
+func (c *counted) Write(name string, data []byte) error {
+	c.memory.Write(name, data)
+	return c.write()
+}
+
+func (c *counted) Append(name string, data []byte) error {
+	c.memory.Append(name, data)
+	return c.write()
+}
+
+func (c *counted) Remove(name string) error {
+	c.memory.Remove(name)
+	return c.write()
+}
+
+func (c *counted) Sync() error { return c.write() }

@@ -3,18 +3,21 @@ package leasekeeper
 
 import (
 	"leasekeeper/api"
+	"leasekeeper/journal"
 	"leasekeeper/names"
 	"leasekeeper/order"
 	"leasekeeper/paths"
 	"leasekeeper/queue"
+	"leasekeeper/records"
 )
 
 // Vault is what keeps tokens and leases.
 type Vault struct {
+	journal *journal.Journal
 	revoker api.Revoker
 	time    uint64
-	tokens  map[names.Name]*tokenEntry // those that are not gone
-	leases  map[names.Name]*leaseEntry // those that are not gone
+	tokens  map[names.Name]tokenEntry // those that are not gone
+	leases  map[names.Name]leaseEntry // those that are not gone
 
 	// The highest numbers that were given: what the maps hold does not tell them, since what is gone had one, too.
 	tokenNumber uint64
@@ -26,13 +29,18 @@ type Vault struct {
 
 // Open opens a vault over what a disk has (P3, P13).
 func Open(d api.Disk, r api.Revoker, now uint64) (*Vault, error) {
-	root := &tokenEntry{entry{at: api.Never}}
-	return &Vault{
+	v := &Vault{
 		revoker: r,
 		time:    now,
-		tokens:  map[names.Name]*tokenEntry{names.Root(): root},
-		leases:  map[names.Name]*leaseEntry{},
-	}, nil
+		tokens:  map[names.Name]tokenEntry{names.Root(): {entry{at: api.Never}}},
+		leases:  map[names.Name]leaseEntry{},
+	}
+	opened, err := journal.Open(d, v.count)
+	if err != nil {
+		return nil, err
+	}
+	v.journal = opened
+	return v, nil
 }
 
 // CreateToken makes a token below another (P4).
@@ -44,9 +52,11 @@ func (v *Vault) CreateToken(parent string) (string, error) {
 	if len(v.tokens) >= api.MaxTokens {
 		return "", api.ErrMany
 	}
-	v.tokenNumber++
-	name := names.Name{Kind: names.Token, Number: v.tokenNumber}
-	v.tokens[name] = &tokenEntry{entry{above: above, at: api.Never}}
+	name := names.Name{Kind: names.Token, Number: v.tokenNumber + 1}
+	token := tokenEntry{entry{above: above, at: api.Never}}
+	if err := v.keep(token.record(name)); err != nil {
+		return "", err
+	}
 	return name.String(), nil
 }
 
@@ -56,12 +66,14 @@ func (v *Vault) Issue(token string, path string, ttl uint64, most uint64) (strin
 	if err := v.mayIssue(above, path, ttl, most); err != nil {
 		return "", err
 	}
-	v.leaseNumber++
-	name := names.Name{Kind: names.Lease, Number: v.leaseNumber}
-	v.leases[name] = &leaseEntry{
+	name := names.Name{Kind: names.Lease, Number: v.leaseNumber + 1}
+	lease := leaseEntry{
 		entry: entry{above: above, at: later(v.time, ttl)},
 		path:  path,
 		last:  later(v.time, most),
+	}
+	if err := v.keep(lease.record(name)); err != nil {
+		return "", err
 	}
 	return name.String(), nil
 }
@@ -85,18 +97,26 @@ func (v *Vault) mayIssue(above names.Name, path string, ttl uint64, most uint64)
 
 // Renew makes a lease last longer (P6).
 func (v *Vault) Renew(id string, ttl uint64) (uint64, error) {
-	lease := v.liveLease(id)
-	if lease == nil {
+	name := names.Parse(id)
+	lease, ok := v.liveLease(name)
+	if !ok {
 		return 0, api.ErrLease
 	}
-	lease.at = max(lease.at, min(later(v.time, ttl), lease.last))
-	return lease.at, nil
+	at := min(later(v.time, ttl), lease.last)
+	if at <= lease.at {
+		return lease.at, nil
+	}
+	lease.at = at
+	if err := v.keep(lease.record(name)); err != nil {
+		return 0, err
+	}
+	return at, nil
 }
 
 // Authorize: is the lease live, and is that its path (P7)?
 func (v *Vault) Authorize(id string, path string) bool {
-	lease := v.liveLease(id)
-	return lease != nil && lease.path == path
+	lease, ok := v.liveLease(names.Parse(id))
+	return ok && lease.path == path
 }
 
 // Next: when something is over, or due (P10).
@@ -124,19 +144,47 @@ func (v *Vault) All() func(yield func(api.Info) bool) {
 	}
 }
 
-// Compact writes anew what is durable (P16).
-func (v *Vault) Compact() error { return nil }
+// Compact writes anew what is durable (P16). That is not built yet: it says no more than what the disk said (P14).
+func (v *Vault) Compact() error { return v.journal.Err() }
 
 func (v *Vault) isLiveToken(name names.Name) bool {
 	token, ok := v.tokens[name]
 	return ok && token.live()
 }
 
-// liveLease is nil, unless id is a lease that is live.
-func (v *Vault) liveLease(id string) *leaseEntry {
-	lease, ok := v.leases[names.Parse(id)]
-	if !ok || !lease.live(v.time) {
+func (v *Vault) liveLease(name names.Name) (leaseEntry, bool) {
+	lease, ok := v.leases[name]
+	return lease, ok && lease.live(v.time)
+}
+
+// keep makes records durable together, and only then lets them count. All that turns but the time turns here.
+func (v *Vault) keep(list ...records.Record) error {
+	if len(list) == 0 {
 		return nil
 	}
-	return lease
+	now := records.Record{Kind: records.Time, At: v.time}
+	if err := v.journal.Add(append([]records.Record{now}, list...)...); err != nil {
+		return err
+	}
+	for _, record := range list {
+		v.count(record)
+	}
+	return nil
+}
+
+// count does what a record tells, whether it was just made or is read.
+func (v *Vault) count(record records.Record) {
+	switch {
+	case record.Kind == records.Time:
+		v.time = max(v.time, record.At)
+	case record.Kind == records.Gone:
+		delete(v.tokens, record.Name)
+		delete(v.leases, record.Name)
+	case record.Name.Kind == names.Token:
+		v.tokens[record.Name] = tokenOf(record)
+		v.tokenNumber = max(v.tokenNumber, record.Name.Number)
+	case record.Name.Kind == names.Lease:
+		v.leases[record.Name] = leaseOf(record)
+		v.leaseNumber = max(v.leaseNumber, record.Name.Number)
+	}
 }

@@ -2,6 +2,7 @@ package leasekeeper_test
 
 import (
 	"fmt"
+	"math"
 	"math/rand"
 	"slices"
 	"strings"
@@ -24,6 +25,7 @@ type thing struct {
 // model is a slow vault: whatever it is asked it goes over all that ever was.
 type model struct {
 	time           uint64
+	durable        uint64 // the last time at which something turned
 	tick           int
 	tokens, leases []*thing
 }
@@ -74,6 +76,7 @@ func (m *model) create(parent string) (string, api.Errno) {
 	}
 	x := &thing{id: fmt.Sprint("t", len(m.tokens)), number: len(m.tokens), above: parent, at: api.Never}
 	m.tokens = append(m.tokens, x)
+	m.durable = m.time
 	return x.id, api.OK
 }
 
@@ -94,6 +97,7 @@ func (m *model) issue(token string, path string, ttl uint64, most uint64) (strin
 	n := len(m.leases) + 1
 	x := &thing{id: fmt.Sprint("l", n), isLease: true, number: n, above: token, path: path, at: sum(m.time, ttl), last: sum(m.time, most)}
 	m.leases = append(m.leases, x)
+	m.durable = m.time
 	return x.id, api.OK
 }
 
@@ -104,6 +108,7 @@ func (m *model) renew(id string, ttl uint64) (uint64, api.Errno) {
 	}
 	if at := min(sum(m.time, ttl), x.last); at > x.at {
 		x.at = at
+		m.durable = m.time
 	}
 	return x.at, api.OK
 }
@@ -113,6 +118,7 @@ func (m *model) revoke(x *thing) int {
 		return 0
 	}
 	x.revoked, x.at = true, m.time
+	m.durable = m.time
 	return 1
 }
 
@@ -189,11 +195,12 @@ func (m *model) firstDue() *thing {
 	return first
 }
 
-func (m *model) doTick(now uint64, fails uint64) []string {
+// doTick makes so many tries at the most.
+func (m *model) doTick(now uint64, fails uint64, most int) []string {
 	m.time = max(m.time, now)
 	m.tick++
 	var tried []string
-	for x := m.firstDue(); x != nil; x = m.firstDue() {
+	for x := m.firstDue(); x != nil && len(tried) < most; x = m.firstDue() {
 		tried = append(tried, x.id)
 		x.tick = m.tick
 		if fails&1 == 0 {
@@ -204,6 +211,7 @@ func (m *model) doTick(now uint64, fails uint64) []string {
 			x.tries++
 		}
 		fails >>= 1
+		m.durable = m.time
 	}
 	return tried
 }
@@ -265,50 +273,131 @@ func (c chooser) now(m *model) uint64 {
 	return sum(m.time, uint64(c.Intn(4)))
 }
 
-// step does one call of both, and tells it with its answers.
-func (c chooser) step(m *model, h *plain.Host) (call string, got string, want string) {
+// call is a call of the vault and what the model does for it. Both tell what is answered, beside an error; of a Tick, which may turn something and say an error, that is what was tried.
+type call struct {
+	text   string
+	isTick bool
+	ask    func(h *plain.Host, f plain.Fall) (string, api.Errno)
+	do     func(m *model, tries int) (string, api.Errno)
+}
+
+func (c chooser) call(m *model) call {
 	token, lease, path, ttl := c.name("t", m.tokens), c.name("l", m.leases), c.path(), c.ticks()
 	switch c.Intn(13) {
 	case 0, 1:
-		return "CreateToken " + token, fmt.Sprint(h.CreateToken(token, well)), fmt.Sprint(m.create(token))
+		return createCall(token)
 	case 2, 3, 4, 5:
-		most := sum(ttl, uint64(c.Intn(20)))
-		return fmt.Sprint("Issue ", token, path, ttl, most), fmt.Sprint(h.Issue(token, path, ttl, most, well)), fmt.Sprint(m.issue(token, path, ttl, most))
+		return issueCall(token, path, ttl, sum(ttl, uint64(c.Intn(20))))
 	case 6:
-		return fmt.Sprint("Renew ", lease, ttl), fmt.Sprint(h.Renew(lease, ttl, well)), fmt.Sprint(m.renew(lease, ttl))
+		return renewCall(lease, ttl)
 	case 7:
-		return "Revoke " + lease, fmt.Sprint(h.Revoke(lease, well)), fmt.Sprint(m.revokeLease(lease))
+		return revokeCall(lease)
 	case 8:
-		prefix := path
 		if c.Intn(10) == 0 {
-			prefix = ""
+			return prefixCall("")
 		}
-		return "RevokePrefix " + prefix, fmt.Sprint(h.RevokePrefix(prefix, well)), fmt.Sprint(m.revokePrefix(prefix))
+		return prefixCall(path)
 	case 9:
-		return "RevokeToken " + token, fmt.Sprint(h.RevokeToken(token, well)), fmt.Sprint(m.revokeToken(token))
+		return revokeTokenCall(token)
 	}
-	now, fails := c.now(m), c.Uint64()&c.Uint64()
-	tried, e := h.Tick(now, fails, well)
-	return fmt.Sprint("Tick ", now, fails), fmt.Sprint(tried, e), fmt.Sprint(m.doTick(now, fails), api.OK)
+	return tickCall(c.now(m), c.Uint64()&c.Uint64())
+}
+
+func createCall(parent string) call {
+	return call{
+		text: "CreateToken " + parent,
+		ask:  func(h *plain.Host, f plain.Fall) (string, api.Errno) { return h.CreateToken(parent, f) },
+		do:   func(m *model, _ int) (string, api.Errno) { return m.create(parent) },
+	}
+}
+
+func issueCall(token string, path string, ttl uint64, most uint64) call {
+	return call{
+		text: fmt.Sprintf("Issue %s %s %d %d", token, path, ttl, most),
+		ask:  func(h *plain.Host, f plain.Fall) (string, api.Errno) { return h.Issue(token, path, ttl, most, f) },
+		do:   func(m *model, _ int) (string, api.Errno) { return m.issue(token, path, ttl, most) },
+	}
+}
+
+func renewCall(lease string, ttl uint64) call {
+	return call{
+		text: fmt.Sprintf("Renew %s %d", lease, ttl),
+		ask:  func(h *plain.Host, f plain.Fall) (string, api.Errno) { return told(h.Renew(lease, ttl, f)) },
+		do:   func(m *model, _ int) (string, api.Errno) { return told(m.renew(lease, ttl)) },
+	}
+}
+
+func revokeCall(lease string) call {
+	return call{
+		text: "Revoke " + lease,
+		ask:  func(h *plain.Host, f plain.Fall) (string, api.Errno) { return "", h.Revoke(lease, f) },
+		do:   func(m *model, _ int) (string, api.Errno) { return "", m.revokeLease(lease) },
+	}
+}
+
+func prefixCall(prefix string) call {
+	return call{
+		text: "RevokePrefix " + prefix,
+		ask:  func(h *plain.Host, f plain.Fall) (string, api.Errno) { return told(h.RevokePrefix(prefix, f)) },
+		do:   func(m *model, _ int) (string, api.Errno) { return told(m.revokePrefix(prefix)) },
+	}
+}
+
+func revokeTokenCall(token string) call {
+	return call{
+		text: "RevokeToken " + token,
+		ask:  func(h *plain.Host, f plain.Fall) (string, api.Errno) { return "", h.RevokeToken(token, f) },
+		do:   func(m *model, _ int) (string, api.Errno) { return "", m.revokeToken(token) },
+	}
+}
+
+func tickCall(now uint64, fails uint64) call {
+	return call{
+		text:   fmt.Sprintf("Tick %d %b", now, fails),
+		isTick: true,
+		ask: func(h *plain.Host, f plain.Fall) (string, api.Errno) {
+			tried, e := h.Tick(now, fails, f)
+			return strings.Join(tried, " "), e
+		},
+		do: func(m *model, tries int) (string, api.Errno) {
+			return strings.Join(m.doTick(now, fails, tries), " "), api.OK
+		},
+	}
+}
+
+// told: a number as a text; zero, as it stands beside an error, as the empty one.
+func told[N int | uint64](number N, e api.Errno) (string, api.Errno) {
+	if number == 0 {
+		return "", e
+	}
+	return fmt.Sprint(number), e
+}
+
+// wantModel: does the vault have what the model has?
+func wantModel(t *testing.T, h *plain.Host, m *model, calls []string) {
+	t.Helper()
+	if got, want := all(t, h), m.all(); !slices.Equal(got, want) {
+		t.Fatalf("%s\nAll: %v, want\n%v", strings.Join(calls, "\n"), got, want)
+	}
+	if got, want := h.Next(), m.next(); got != want {
+		t.Fatalf("%s\nNext = %d, want %d", strings.Join(calls, "\n"), got, want)
+	}
 }
 
 func TestTheVaultDoesWhatTheModelDoes(t *testing.T) {
 	for seed := range int64(300) {
 		c := chooser{rand.New(rand.NewSource(seed))}
 		h, m := open(t, 100), newModel(100)
-		var calls []string
+		calls := []string{fmt.Sprint("seed ", seed)}
 		for range 300 {
-			call, got, want := c.step(m, h)
-			calls = append(calls, call)
-			if got != want {
-				t.Fatalf("seed %d: %s\n= %s, want %s", seed, strings.Join(calls, "\n"), got, want)
+			call := c.call(m)
+			calls = append(calls, call.text)
+			got, gotErr := call.ask(h, well)
+			want, wantErr := call.do(m, math.MaxInt)
+			if got != want || gotErr != wantErr {
+				t.Fatalf("%s\n= %s, %d, want %s, %d", strings.Join(calls, "\n"), got, gotErr, want, wantErr)
 			}
-			if got, want := all(t, h), m.all(); !slices.Equal(got, want) {
-				t.Fatalf("seed %d: %s\nAll: %v, want\n%v", seed, strings.Join(calls, "\n"), got, want)
-			}
-			if got, want := h.Next(), m.next(); got != want {
-				t.Fatalf("seed %d: Next = %d, want %d", seed, got, want)
-			}
+			wantModel(t, h, m, calls)
 		}
 	}
 }

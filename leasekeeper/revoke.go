@@ -5,18 +5,21 @@ import (
 	"leasekeeper/names"
 	"leasekeeper/order"
 	"leasekeeper/paths"
+	"leasekeeper/records"
 )
 
 // Revoke: a lease is to go (P8).
 func (v *Vault) Revoke(id string) error {
-	lease, ok := v.leases[names.Parse(id)]
+	name := names.Parse(id)
+	lease, ok := v.leases[name]
 	if !ok {
 		return api.ErrLease
 	}
-	if lease.live(v.time) {
-		lease.revoke(v.time)
+	if !lease.live(v.time) {
+		return nil
 	}
-	return nil
+	lease.revoke(v.time)
+	return v.keep(lease.record(name))
 }
 
 // RevokePrefix: all leases below a path are to go (P8).
@@ -24,9 +27,13 @@ func (v *Vault) RevokePrefix(prefix string) (int, error) {
 	if prefix != "" && !paths.Valid(prefix) {
 		return 0, api.ErrPath
 	}
-	return v.revokeLeases(func(lease *leaseEntry) bool {
+	list := v.revokedLeases(func(lease leaseEntry) bool {
 		return paths.Within(lease.path, prefix)
-	}), nil
+	})
+	if err := v.keep(list...); err != nil {
+		return 0, err
+	}
+	return len(list), nil
 }
 
 // RevokeToken: a token and all below it are to go (P9).
@@ -35,27 +42,28 @@ func (v *Vault) RevokeToken(id string) error {
 	if _, ok := v.tokens[top]; !ok || top == names.Root() {
 		return api.ErrToken
 	}
+	list := v.revokedLeases(func(lease leaseEntry) bool {
+		return v.isWithin(lease.above, top)
+	})
 	for name, token := range order.Walk(v.tokens) {
 		if token.live() && v.isWithin(name, top) {
 			token.revoke(v.time)
+			list = append(list, token.record(name))
 		}
 	}
-	v.revokeLeases(func(lease *leaseEntry) bool {
-		return v.isWithin(lease.above, top)
-	})
-	return nil
+	return v.keep(list...)
 }
 
-// revokeLeases revokes the live leases that are meant, and says how many.
-func (v *Vault) revokeLeases(meant func(*leaseEntry) bool) int {
-	count := 0
-	for _, lease := range order.Walk(v.leases) {
+// revokedLeases are the live leases that are meant, as they stand when they are revoked.
+func (v *Vault) revokedLeases(meant func(leaseEntry) bool) []records.Record {
+	var list []records.Record
+	for name, lease := range order.Walk(v.leases) {
 		if lease.live(v.time) && meant(lease) {
 			lease.revoke(v.time)
-			count++
+			list = append(list, lease.record(name))
 		}
 	}
-	return count
+	return list
 }
 
 // isWithin: is the token top, or below it? Whatever is above a token that is not gone is not gone either, so that the way up ends behind the root alone.

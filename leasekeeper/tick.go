@@ -5,6 +5,7 @@ import (
 
 	"leasekeeper/names"
 	"leasekeeper/order"
+	"leasekeeper/records"
 )
 
 // turn is the place of a token or lease among what is due.
@@ -25,9 +26,9 @@ func (t turn) Compare(other turn) int {
 // Tick: it is so late; what is due is tried (P10, P11).
 func (v *Vault) Tick(now uint64) error {
 	v.time = max(v.time, now)
-	// A revoker may ask for a Tick itself: would that one try anything, neither might ever end.
+	// A revoker may ask for a Tick itself: would that one try anything, neither might ever end. (What is being tried is due, so that an error of the disk is to be said.)
 	if v.ticking {
-		return nil
+		return v.journal.Err()
 	}
 	v.ticking = true
 	// However this ends, by a panic of the revoker too, the next Tick begins anew.
@@ -37,7 +38,9 @@ func (v *Vault) Tick(now uint64) error {
 	}()
 	v.queueAll()
 	for next, ok := v.due.Pop(); ok; next, ok = v.due.Pop() {
-		v.try(next.name)
+		if err := v.try(next.name); err != nil {
+			return err
+		}
 	}
 	return nil
 }
@@ -78,22 +81,36 @@ func (v *Vault) hasBelow(name names.Name) bool {
 	return false
 }
 
-// try asks the revoker. If the last one below a token goes, the token above may be due by that; so each is put in line once in a Tick.
-func (v *Vault) try(name names.Name) {
-	tried := v.entryOf(name)
-	if !v.revoker.Revoke(name.String()) {
-		tried.fail(v.time)
-		return
+// try asks the revoker, unless what it says could not be made durable. If the last one below a token goes, the token above may be due by that; so each is put in line once in a Tick.
+func (v *Vault) try(name names.Name) error {
+	if err := v.journal.Err(); err != nil {
+		return err
 	}
-	delete(v.tokens, name)
-	delete(v.leases, name)
-	v.queueToken(tried.above)
+	above := v.aboveOf(name)
+	if !v.revoker.Revoke(name.String()) {
+		return v.keep(v.failed(name))
+	}
+	if err := v.keep(records.Record{Kind: records.Gone, Name: name}); err != nil {
+		return err
+	}
+	v.queueToken(above)
+	return nil
 }
 
-// entryOf is what a token and a lease share, of one that is not gone.
-func (v *Vault) entryOf(name names.Name) *entry {
+// failed is how a token or lease stands when it was tried in vain.
+func (v *Vault) failed(name names.Name) records.Record {
 	if token, ok := v.tokens[name]; ok {
-		return &token.entry
+		token.fail(v.time)
+		return token.record(name)
 	}
-	return &v.leases[name].entry
+	lease := v.leases[name]
+	lease.fail(v.time)
+	return lease.record(name)
+}
+
+func (v *Vault) aboveOf(name names.Name) names.Name {
+	if token, ok := v.tokens[name]; ok {
+		return token.above
+	}
+	return v.leases[name].above
 }
