@@ -2,8 +2,6 @@ package journal_test
 
 import (
 	"errors"
-	"fmt"
-	"slices"
 	"strings"
 	"testing"
 
@@ -13,68 +11,18 @@ import (
 	"leasekeeper/records"
 )
 
-// disk has one file. It says what it was told, and fails as often as it has errors, nil being none.
-type disk struct {
-	durable, now []byte
-	exists       bool
-	told         []string
-	errors       []error
-}
-
-func (d *disk) tell(what string) error {
-	d.told = append(d.told, what)
-	if len(d.errors) == 0 {
-		return nil
-	}
-	err := d.errors[0]
-	d.errors = d.errors[1:]
-	return err
-}
-
-func (d *disk) Read(string) ([]byte, error) {
-	if err := d.tell("read"); err != nil {
-		return nil, err
-	}
-	if !d.exists {
-		return nil, fmt.Errorf("journal: %w", api.ErrNone)
-	}
-	return slices.Clone(d.now), nil
-}
-
-// Append scribbles over what it was handed, as a disk may that takes it over.
-func (d *disk) Append(_ string, data []byte) error {
-	err := d.tell("append")
-	if err == nil {
-		d.now, d.exists = append(d.now, data...), true
-	}
-	for i := range data {
-		data[i] = '!'
-	}
-	return err
-}
-
-func (d *disk) Sync() error {
-	err := d.tell("sync")
-	if err == nil {
-		d.durable = slices.Clone(d.now)
-	}
-	return err
-}
-
-func (d *disk) Write(string, []byte) error { return d.tell("write") }
-func (d *disk) Remove(string) error        { return d.tell("remove") }
-func (d *disk) Names() ([]string, error)   { return nil, d.tell("names") }
-
-// fall: of what is not durable so many bytes are kept.
-func (d *disk) fall(kept int) {
-	d.now = slices.Clone(d.now[:len(d.durable)+kept])
-	d.durable = slices.Clone(d.now)
-}
-
 var errOdd = errors.New("odd")
 
 func record(number int) records.Record {
 	return records.Record{Kind: records.Gone, Name: names.Name{Kind: names.Lease, Number: uint64(number)}}
+}
+
+func recordsOf(numbers ...int) []records.Record {
+	var list []records.Record
+	for _, number := range numbers {
+		list = append(list, record(number))
+	}
+	return list
 }
 
 // opened opens the journal, and has the numbers of the records that count.
@@ -90,11 +38,7 @@ func opened(t *testing.T, d *disk) (*journal.Journal, string) {
 
 func add(t *testing.T, j *journal.Journal, numbers ...int) {
 	t.Helper()
-	var list []records.Record
-	for _, number := range numbers {
-		list = append(list, record(number))
-	}
-	if err := j.Add(list...); err != nil {
+	if err := j.Add(recordsOf(numbers...)...); err != nil {
 		t.Fatalf("Add(%v): %v", numbers, err)
 	}
 }
@@ -109,15 +53,15 @@ func wantTold(t *testing.T, d *disk, want string) {
 }
 
 func TestAnEmptyDiskIsReadAlone(t *testing.T) {
-	d := &disk{}
+	d := newDisk()
 	wantTold(t, d, "")
-	if got := strings.Join(d.told, " "); got != "read read" {
+	if got := strings.Join(d.told, " "); got != "names read names read" {
 		t.Errorf("the disk was told: %s", got)
 	}
 }
 
 func TestWhatWasAddedIsToldInItsOrder(t *testing.T) {
-	d := &disk{}
+	d := newDisk()
 	j, _ := opened(t, d)
 	add(t, j, 3)
 	add(t, j, 1, 2, 9)
@@ -128,14 +72,14 @@ func TestWhatWasAddedIsToldInItsOrder(t *testing.T) {
 }
 
 func TestWhatWasAddedIsDurable(t *testing.T) {
-	d := &disk{}
+	d := newDisk()
 	j, _ := opened(t, d)
 	add(t, j, 1)
 	add(t, j, 2, 3)
-	if got := strings.Join(d.told, " "); got != "read append sync append sync" {
+	if got := strings.Join(d.told, " "); got != "names read append sync append sync" {
 		t.Errorf("the disk was told: %s", got)
 	}
-	d.fall(0)
+	d.fall(0, 0, 0)
 	wantTold(t, d, "l1 l2 l3")
 }
 
@@ -144,7 +88,7 @@ func TestAllFieldsAreTold(t *testing.T) {
 		Kind: records.Kept, Name: names.Name{Kind: names.Lease, Number: 1}, Above: names.Root(),
 		Pending: true, At: api.Never, Tries: 4, Last: 9, Path: "a/b",
 	}
-	d := &disk{}
+	d := newDisk()
 	j, _ := opened(t, d)
 	j.Add(want)
 	var got records.Record
@@ -157,15 +101,15 @@ func TestAllFieldsAreTold(t *testing.T) {
 // TestATornAddCountsNotAtAll: wherever it is torn, and whatever is added behind it, torn again or not.
 func TestATornAddCountsNotAtAll(t *testing.T) {
 	for kept, whole := 0, false; !whole; kept++ {
-		d := &disk{}
+		d := newDisk()
 		j, _ := opened(t, d)
 		add(t, j, 1, 2)
 		d.errors = []error{nil, api.ErrDown}
 		if err := j.Add(record(3), record(4), record(5)); err != api.ErrDown {
 			t.Fatalf("Add = %v", err)
 		}
-		whole = len(d.durable)+kept == len(d.now)
-		d.fall(kept)
+		whole = kept == len(d.pending[0].data)
+		d.fall(1, 0, kept)
 		counts := "l1 l2"
 		if whole {
 			counts += " l3 l4 l5"
@@ -174,7 +118,7 @@ func TestATornAddCountsNotAtAll(t *testing.T) {
 		j, _ = opened(t, d)
 		d.errors = []error{nil, api.ErrDown}
 		j.Add(record(6))
-		d.fall(min(kept, len(d.now)-len(d.durable)-1))
+		d.fall(1, 0, min(kept, len(d.pending[0].data)-1))
 		wantTold(t, d, counts)
 		j, _ = opened(t, d)
 		add(t, j, 7)
@@ -184,20 +128,20 @@ func TestATornAddCountsNotAtAll(t *testing.T) {
 }
 
 func TestWhatIsToldIsDurable(t *testing.T) {
-	d := &disk{}
+	d := newDisk()
 	j, _ := opened(t, d)
 	d.errors = []error{nil, api.ErrFull}
 	if err := j.Add(record(1)); err != api.ErrFull {
 		t.Fatalf("Add = %v", err)
 	}
 	wantTold(t, d, "l1")
-	d.fall(0)
+	d.fall(0, 0, 0)
 	wantTold(t, d, "l1")
 }
 
 func TestOpenSaysWhatTheDiskSays(t *testing.T) {
-	for i, list := range [][]error{{errOdd}, {api.ErrDown}, {nil, errOdd}, {nil, api.ErrFull}} {
-		d := &disk{}
+	for i, list := range [][]error{{errOdd}, {api.ErrDown}, {api.ErrNone}, {nil, errOdd}, {nil, api.ErrDown}, {nil, nil, errOdd}, {nil, nil, api.ErrFull}} {
+		d := newDisk()
 		j, _ := opened(t, d)
 		add(t, j, 1)
 		d.errors = list
@@ -210,9 +154,24 @@ func TestOpenSaysWhatTheDiskSays(t *testing.T) {
 	}
 }
 
+func TestOpenSaysWhatTheDiskSaysOfTheFirstFile(t *testing.T) {
+	for text, list := range map[string][]error{"": {nil, nil, errOdd}, "\n1 1": {nil, nil, errOdd}} {
+		d := holding(text)
+		d.errors = list
+		if j, err := journal.Open(d, func(records.Record) {}); j != nil || err != errOdd {
+			t.Errorf("over %q: Open = %v, %v", text, j, err)
+		}
+	}
+	d := newDisk()
+	d.errors = []error{nil, errOdd}
+	if j, err := journal.Open(d, func(records.Record) {}); j != nil || err != errOdd {
+		t.Errorf("over an empty disk: Open = %v, %v", j, err)
+	}
+}
+
 func TestBehindAnErrorNothingIsWritten(t *testing.T) {
 	for i, list := range [][]error{{errOdd}, {nil, errOdd}} {
-		d := &disk{}
+		d := newDisk()
 		j, _ := opened(t, d)
 		add(t, j, 1)
 		if j.Err() != nil {
@@ -231,7 +190,7 @@ func TestBehindAnErrorNothingIsWritten(t *testing.T) {
 		if len(d.told) != asked {
 			t.Errorf("%d: the disk was told: %v", i, d.told)
 		}
-		d.fall(0)
+		d.fall(0, 0, 0)
 		wantTold(t, d, "l1")
 	}
 }
@@ -242,7 +201,7 @@ func TestWhatIsNoLineIsPassedOver(t *testing.T) {
 		"", "\n", " ", "  ", "\n\n\n", "0", "0 0 ", "\n0 0 \n", "0 14695981039346656037 ", "\n0 14695981039346656037", "1 1 1", "-1 -1 x", "\x00", "\xff\xff", "é 😀 \n",
 		"18446744073709551616 18446744073709551616 ", strings.Repeat(" ", 99), strings.Repeat("9", 99), strings.Repeat("\n9 ", 99),
 	} {
-		d := &disk{now: []byte(text), exists: true}
+		d := holding(text)
 		wantTold(t, d, "")
 		j, _ := opened(t, d)
 		add(t, j, 1, 2)
@@ -251,21 +210,21 @@ func TestWhatIsNoLineIsPassedOver(t *testing.T) {
 }
 
 func TestALineWithAnotherByteIsPassedOver(t *testing.T) {
-	d := &disk{}
+	d := newDisk()
 	j, _ := opened(t, d)
 	add(t, j, 1)
-	from := len(d.now)
+	from := len(d.now["journal"])
 	add(t, j, 2)
-	to := len(d.now)
+	to := len(d.now["journal"])
 	add(t, j, 3)
 	for i := from + 1; i < to; i++ {
-		for _, other := range []byte{d.now[i] ^ 1, '7', ' ', 'x'} {
-			if other == d.now[i] {
-				continue
+		data := []byte(d.now["journal"])
+		was := data[i]
+		for _, other := range []byte{was ^ 1, '7', ' ', 'x'} {
+			if other != was {
+				data[i] = other
+				wantTold(t, holding(string(data)), "l1 l3")
 			}
-			odd := &disk{now: slices.Clone(d.now), exists: true}
-			odd.now[i] = other
-			wantTold(t, odd, "l1 l3")
 		}
 	}
 }

@@ -47,3 +47,11 @@ func textOf(line string) (string, bool) {
 	}
 	return text, told == markOf(text)
 }
+
+// beginsWhole: is the first line of a file whole? A Write that was torn left no such line.
+func beginsWhole(lines string) bool {
+	_, lines, _ = strings.Cut(lines, lineStart)
+	first, _, _ := strings.Cut(lines, lineStart)
+	_, whole := textOf(first)
+	return whole
+}

@@ -45,19 +45,25 @@ func mixedInfos() []api.Info {
 	}
 }
 
+// wantMixed: whatever is asked of it, the vault answers as mixed does.
+func wantMixed(t *testing.T, h *plain.Host) {
+	t.Helper()
+	wantAll(t, h, mixedInfos()...)
+	if next := h.Next(); next != 106 {
+		t.Errorf("Next = %d", next)
+	}
+	if !h.Authorize("l1", "a") || h.Authorize("l3", "b") || h.Authorize("l5", "c") {
+		t.Error("Authorize")
+	}
+	wantUnknown(t, h, "l5")
+}
+
 func TestP13WhatWasThereIsThereAgain(t *testing.T) {
 	h := mixed(t)
-	wantAll(t, h, mixedInfos()...)
+	wantMixed(t, h)
 	for _, now := range []uint64{106, 0, 107, 106} {
 		reopen(t, h, now)
-		wantAll(t, h, mixedInfos()...)
-		if next := h.Next(); next != 106 {
-			t.Errorf("P13: Next = %d", next)
-		}
-		if !h.Authorize("l1", "a") || h.Authorize("l3", "b") || h.Authorize("l5", "c") {
-			t.Error("P13: Authorize")
-		}
-		wantUnknown(t, h, "l5")
+		wantMixed(t, h)
 	}
 }
 

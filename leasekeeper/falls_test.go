@@ -84,6 +84,9 @@ func (r *run) step() {
 		r.fail("want ", want, " ", wantErr)
 	}
 	wantModel(r.T, r.h, r.m, r.done)
+	if call.isCompact {
+		wantRoom(r.T, r.h)
+	}
 	if r.Intn(10) == 0 {
 		r.reopen(r.m)
 	}
@@ -120,7 +123,7 @@ func (r *run) refused() {
 	for range r.Intn(8) {
 		call := r.call(r.m)
 		want, wantErr := call.do(r.m.clone(), math.MaxInt)
-		turns := !slices.Equal(r.m.all(), r.m.after(call, math.MaxInt).all())
+		turns := call.isCompact || !slices.Equal(r.m.all(), r.m.after(call, math.MaxInt).all())
 		if call.isTick {
 			turns = want != ""
 			call.do(r.m, 0)
@@ -137,9 +140,6 @@ func (r *run) refused() {
 			r.fail("P14: the disk went down by a call that was to write nothing")
 		}
 		wantModel(r.T, r.h, r.m, r.done)
-	}
-	if e := r.h.Compact(r.fall()); !isOfDisk(e) || !r.h.Is() {
-		r.fail("P14: Compact = ", e)
 	}
 }
 
@@ -172,7 +172,7 @@ func (r *run) reopen(models ...*model) {
 				left = append(left, opened)
 			}
 		}
-		if len(left) != 1 {
+		if len(left) == 0 {
 			r.fail("P13, P15: opened at ", now, ": ", got)
 		}
 		models = left
@@ -180,9 +180,30 @@ func (r *run) reopen(models ...*model) {
 	r.note("opened at ", now)
 	r.m = left[0]
 	wantModel(r.T, r.h, r.m, r.done)
+	if len(left) > 1 {
+		r.settle(left)
+	}
 }
 
-func TestP13ToP15TheVaultDoesWhatTheModelDoesHoweverTheDiskFalls(t *testing.T) {
+// settle: whether a Compact that fell counts is told by the time alone, which is not always to be seen; behind a Tick of the later one, and a Compact that does not fall, it is the same.
+func (r *run) settle(models []*model) {
+	for _, m := range models {
+		if m.time > r.m.time {
+			r.m = m
+		}
+	}
+	for _, call := range []call{tickCall(r.m.time, 0), compactCall()} {
+		got, e := call.ask(r.h, well)
+		r.note(call.text, " = ", got, " ", e)
+		if want, wantErr := call.do(r.m, math.MaxInt); got != want || e != wantErr {
+			r.fail("want ", want, " ", wantErr)
+		}
+	}
+	wantModel(r.T, r.h, r.m, r.done)
+	wantRoom(r.T, r.h)
+}
+
+func TestP13ToP16TheVaultDoesWhatTheModelDoesHoweverTheDiskFalls(t *testing.T) {
 	for seed := range int64(200) {
 		r := &run{T: t, chooser: chooser{rand.New(rand.NewSource(seed))}, h: open(t, 100), m: newModel(100)}
 		r.note("seed ", seed)

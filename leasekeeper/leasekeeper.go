@@ -144,9 +144,6 @@ func (v *Vault) All() func(yield func(api.Info) bool) {
 	}
 }
 
-// Compact writes anew what is durable (P16). That is not built yet: it says no more than what the disk said (P14).
-func (v *Vault) Compact() error { return v.journal.Err() }
-
 func (v *Vault) isLiveToken(name names.Name) bool {
 	token, ok := v.tokens[name]
 	return ok && token.live()
@@ -162,8 +159,7 @@ func (v *Vault) keep(list ...records.Record) error {
 	if len(list) == 0 {
 		return nil
 	}
-	now := records.Record{Kind: records.Time, At: v.time}
-	if err := v.journal.Add(append([]records.Record{now}, list...)...); err != nil {
+	if err := v.journal.Add(append([]records.Record{v.now()}, list...)...); err != nil {
 		return err
 	}
 	for _, record := range list {
@@ -172,19 +168,39 @@ func (v *Vault) keep(list ...records.Record) error {
 	return nil
 }
 
+func (v *Vault) now() records.Record { return records.Record{Kind: records.Time, At: v.time} }
+
 // count does what a record tells, whether it was just made or is read.
 func (v *Vault) count(record records.Record) {
-	switch {
-	case record.Kind == records.Time:
+	switch record.Kind {
+	case records.Time:
 		v.time = max(v.time, record.At)
-	case record.Kind == records.Gone:
+	case records.Kept:
+		v.put(record)
+	case records.Gone:
 		delete(v.tokens, record.Name)
 		delete(v.leases, record.Name)
-	case record.Name.Kind == names.Token:
+	case records.Used:
+		v.use(record.Name)
+	}
+}
+
+func (v *Vault) put(record records.Record) {
+	v.use(record.Name)
+	switch record.Name.Kind {
+	case names.Token:
 		v.tokens[record.Name] = tokenOf(record)
-		v.tokenNumber = max(v.tokenNumber, record.Name.Number)
-	case record.Name.Kind == names.Lease:
+	case names.Lease:
 		v.leases[record.Name] = leaseOf(record)
-		v.leaseNumber = max(v.leaseNumber, record.Name.Number)
+	}
+}
+
+// use notes that a name was given, lest it be given again.
+func (v *Vault) use(name names.Name) {
+	switch name.Kind {
+	case names.Token:
+		v.tokenNumber = max(v.tokenNumber, name.Number)
+	case names.Lease:
+		v.leaseNumber = max(v.leaseNumber, name.Number)
 	}
 }

@@ -25,7 +25,7 @@ type thing struct {
 // model is a slow vault: whatever it is asked it goes over all that ever was.
 type model struct {
 	time           uint64
-	durable        uint64 // the last time at which something turned
+	durable        uint64 // the last time at which something turned, or all was written anew
 	tick           int
 	tokens, leases []*thing
 }
@@ -275,15 +275,15 @@ func (c chooser) now(m *model) uint64 {
 
 // call is a call of the vault and what the model does for it. Both tell what is answered, beside an error; of a Tick, which may turn something and say an error, that is what was tried.
 type call struct {
-	text   string
-	isTick bool
-	ask    func(h *plain.Host, f plain.Fall) (string, api.Errno)
-	do     func(m *model, tries int) (string, api.Errno)
+	text              string
+	isTick, isCompact bool
+	ask               func(h *plain.Host, f plain.Fall) (string, api.Errno)
+	do                func(m *model, tries int) (string, api.Errno)
 }
 
 func (c chooser) call(m *model) call {
 	token, lease, path, ttl := c.name("t", m.tokens), c.name("l", m.leases), c.path(), c.ticks()
-	switch c.Intn(13) {
+	switch c.Intn(14) {
 	case 0, 1:
 		return createCall(token)
 	case 2, 3, 4, 5:
@@ -299,6 +299,8 @@ func (c chooser) call(m *model) call {
 		return prefixCall(path)
 	case 9:
 		return revokeTokenCall(token)
+	case 10:
+		return compactCall()
 	}
 	return tickCall(c.now(m), c.Uint64()&c.Uint64())
 }
@@ -365,6 +367,15 @@ func tickCall(now uint64, fails uint64) call {
 	}
 }
 
+func compactCall() call {
+	return call{
+		text:      "Compact",
+		isCompact: true,
+		ask:       func(h *plain.Host, f plain.Fall) (string, api.Errno) { return "", h.Compact(f) },
+		do:        func(m *model, _ int) (string, api.Errno) { m.durable = m.time; return "", api.OK },
+	}
+}
+
 // told: a number as a text; zero, as it stands beside an error, as the empty one.
 func told[N int | uint64](number N, e api.Errno) (string, api.Errno) {
 	if number == 0 {
@@ -384,6 +395,14 @@ func wantModel(t *testing.T, h *plain.Host, m *model, calls []string) {
 	}
 }
 
+// wantRoom: behind a Compact the disk has no more than it may.
+func wantRoom(t *testing.T, h *plain.Host) {
+	t.Helper()
+	if size, most := h.Size(), 1000+200*len(all(t, h)); size > most {
+		t.Fatalf("P16: the disk has %d bytes, %d at the most", size, most)
+	}
+}
+
 func TestTheVaultDoesWhatTheModelDoes(t *testing.T) {
 	for seed := range int64(300) {
 		c := chooser{rand.New(rand.NewSource(seed))}
@@ -398,6 +417,9 @@ func TestTheVaultDoesWhatTheModelDoes(t *testing.T) {
 				t.Fatalf("%s\n= %s, %d, want %s, %d", strings.Join(calls, "\n"), got, gotErr, want, wantErr)
 			}
 			wantModel(t, h, m, calls)
+			if call.isCompact {
+				wantRoom(t, h)
+			}
 		}
 	}
 }

@@ -15,6 +15,7 @@ const (
 	Time Kind = iota // it was At when the records beside this one were made
 	Kept             // the token or lease is not gone, and stands like this
 	Gone             // the token or lease is gone; its name stays used
+	Used             // the name was given, and of its kind all lower ones; of what is gone nothing else may be left that tells it
 )
 
 // Record tells one thing; what its kind has no use for is zero.

@@ -26,6 +26,11 @@ func samples() []records.Record {
 		{Kind: records.Kept, Name: lease(never), Above: token(never), Pending: true, At: never, Tries: math.MaxInt, Last: never, Path: strings.Repeat("-", 24)},
 		{Kind: records.Gone, Name: token(5)},
 		{Kind: records.Gone, Name: lease(6)},
+		{Kind: records.Kept, Name: token(0), At: never},
+		{Kind: records.Kept, Name: token(never), Above: token(never), Pending: true, At: never, Tries: math.MaxInt},
+		{Kind: records.Used, Name: token(0)},
+		{Kind: records.Used, Name: token(never)},
+		{Kind: records.Used, Name: lease(never)},
 	}
 }
 
@@ -50,6 +55,15 @@ func TestTextsTellRecordsApart(t *testing.T) {
 			t.Errorf("%v has the text %q", record, text)
 		}
 		seen[text] = true
+	}
+}
+
+// TestTextsAreShort: a vault that is written anew has so much room for each token and lease.
+func TestTextsAreShort(t *testing.T) {
+	for _, record := range samples() {
+		if n := len(records.Text(record, record)) - len(records.Text(record)); n > 200 {
+			t.Errorf("%v takes %d bytes", record, n)
+		}
 	}
 }
 
